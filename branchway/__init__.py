@@ -1,0 +1,1 @@
+"""Branchway: a tree of states with branches, and the ways between them."""
